@@ -1,0 +1,1 @@
+"""Catalogues of translated texts, carried through releases."""
