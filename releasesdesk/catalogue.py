@@ -24,6 +24,10 @@ class NotSure(Exception):
     """What isn't sure can't be doubted."""
 
 
+class NothingToUndo(Exception):
+    """Each change is undone, or there was none."""
+
+
 class Entry:
     """A key with its text and translation; it's never changed, but exchanged for another one.
 
@@ -39,11 +43,27 @@ class Entry:
 
 
 class Catalogue:
-    """The entries in the order of the last release, and the sure ones that aren't shown any more."""
+    """The entries in the order of the last release, and the sure ones that aren't shown any more.
+
+    past holds the entries and what was kept ahead of each change that isn't undone.
+    """
 
     def __init__(self):
         self.entries = []
         self.kept = []
+        self.past = []
+
+    def remember(self):
+        """To be called ahead of a change, when nothing can refuse it any more."""
+        # Both lists are only ever exchanged for others, so they needn't be copied.
+        self.past.append((self.entries, self.kept))
+
+    def go_back(self):
+        if not self.past:
+            raise NothingToUndo()
+        before = self.past.pop()
+        self.entries = before[0]
+        self.kept = before[1]
 
     def known(self):
         return [entry for entry in self.entries if entry.sure] + self.kept
@@ -154,6 +174,7 @@ def answer_release(catalogue, numbers):
     kept = not_shown(catalogue.known(), entries)
     if len(kept) > MOST_KEPT:
         raise TooMuchKept()
+    catalogue.remember()
     catalogue.entries = entries
     catalogue.kept = kept
     return catalogue.stands()
@@ -164,6 +185,7 @@ def answer_put(catalogue, numbers):
     key = reader.read_number()
     translation = reader.read_text(1)
     entry = catalogue.entry_of(key)
+    catalogue.remember()
     catalogue.exchange(Entry(key, entry.text, translation, True, None))
     return catalogue.stands()
 
@@ -172,6 +194,7 @@ def answer_doubt(catalogue, numbers):
     entry = catalogue.entry_of(numbers[0])
     if not entry.sure:
         raise NotSure()
+    catalogue.remember()
     catalogue.exchange(Entry(entry.key, entry.text, entry.translation, False, entry.key))
     return catalogue.stands()
 
@@ -180,6 +203,7 @@ def answer_together(catalogue, numbers):
     told = read_together(numbers)
     # All entries are looked for ahead of the first change: at a refusal all is as it was.
     ours = [catalogue.entry_of(row[0]) for row in told]
+    catalogue.remember()
     became_of = []
     for entry, row in zip(ours, told):
         theirs = row[2]
@@ -190,14 +214,53 @@ def answer_together(catalogue, numbers):
     return [became_of.count(THEIRS_ALONE)] + became_of
 
 
-def answer_entry(catalogue, numbers):
-    entry = catalogue.entry_of(numbers[0])
-    sure = 1 if entry.sure else 0
+def sure_as_number(entry):
+    return 1 if entry.sure else 0
+
+
+def tell_entry(entry):
     source = 0 if entry.source is None else entry.source + 1
-    return [sure, source] + with_count(entry.text) + with_count(entry.translation)
+    return [sure_as_number(entry), source] + with_count(entry.text) + with_count(entry.translation)
 
 
-CALLS = (answer_release, answer_put, answer_doubt, answer_together, answer_entry)
+def answer_entry(catalogue, numbers):
+    return tell_entry(catalogue.entry_of(numbers[0]))
+
+
+def answer_shows(catalogue, numbers):
+    told = [len(catalogue.entries)]
+    for entry in catalogue.entries:
+        told.extend([entry.key, sure_as_number(entry), len(entry.translation)])
+    return told
+
+
+def answer_kept(catalogue, numbers):
+    told = [len(catalogue.kept)]
+    for one in catalogue.kept:
+        told.extend([one.key] + with_count(one.text) + with_count(one.translation))
+    return told
+
+
+def answer_would(catalogue, numbers):
+    # It's told, and refused, like a release with this one key.
+    row = read_release(numbers)[0]
+    return tell_entry(catalogue.in_release(row[0], row[1]))
+
+
+def answer_undo(catalogue, numbers):
+    catalogue.go_back()
+    return catalogue.stands()
+
+
+def answer_far(catalogue, numbers):
+    reader = Reader(numbers)
+    one = reader.read_text(0)
+    other = reader.read_text(0)
+    return [apart(one, other)]
+
+
+CALLS = (answer_release, answer_put, answer_doubt, answer_together, answer_entry,
+         answer_shows, answer_kept, answer_would, answer_undo, answer_far)
 
 
 def answer_call(catalogue, call, numbers):
@@ -211,6 +274,8 @@ def answer_call(catalogue, call, numbers):
         return [-5]
     except NotSure:
         return [-6]
+    except NothingToUndo:
+        return [-7]
 
 
 def answers(calls):

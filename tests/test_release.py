@@ -2,28 +2,8 @@
 
 import unittest
 
-from line import ask, check_refused, doubt, entry, last, put, release, together, told_entry
+from line import ask, check_refused, doubt, entry, last, much_kept, put, release, rows, told_entry
 from releasesdesk.catalogue import Catalogue, answer_put, answer_release
-
-
-def rows(keys, first_word):
-    return [(key, [first_word, key]) for key in keys]
-
-
-def all_sure(told, began, theirs):
-    """Makes each entry sure in one call."""
-    return together(*[(key, began, theirs) for key, words in told])
-
-
-def much_kept(more):
-    """24 kept, and as many sure entries as told; the next release may keep them all."""
-    first = rows(range(12), 10)
-    second = rows(range(12), 20)
-    third = rows(range(more), 30)
-    calls = [release(*first), all_sure(first, [], [1]),
-             release(*second), all_sure(second, [1], [2]),
-             release(*third), all_sure(third, [2], [3])]
-    return calls, first + second + third
 
 
 class WhatBecomesOfAKey(unittest.TestCase):

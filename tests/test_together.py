@@ -2,12 +2,8 @@
 
 import unittest
 
-from line import ask, call, check_refused, doubt, entry, last, put, release, together, told_entry
+from line import BEFORE, TOLD, ask, call, check_refused, doubt, entry, last, put, release, together, told_entry
 from releasesdesk.catalogue import Catalogue, Entry, answer_together
-
-TOLD = [(1, [1, 2]), (2, [3]), (1, [9])]
-# 1 is sure, 2 is without a translation, (1, [1, 2]) is kept.
-BEFORE = [release((1, [1, 2]), (2, [3])), put(1, [11]), release((1, [9]), (2, [3])), put(1, [13])]
 
 
 class WhatBecomes(unittest.TestCase):
